@@ -1,0 +1,1 @@
+"""Curveseat: curves told by few points, exactly."""

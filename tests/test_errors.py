@@ -1,0 +1,63 @@
+import unittest
+
+from curveseat import errors
+from curveseat.errors import NoJoin, NoLower, NoMap, NoName, NoPlace, NoShare, NoText, SeatError, TooMany
+from curveseat.shares import over, share
+
+REFUSALS = (NoShare, NoLower, NoMap, NoJoin, NoPlace, TooMany, NoText, NoName)
+
+
+class Refusals(unittest.TestCase):
+    def test_base_is_straight_under_value_error(self):
+        self.assertEqual(SeatError.__bases__, (ValueError,))
+
+    def test_each_is_straight_under_the_base(self):
+        for refusal in REFUSALS:
+            with self.subTest(refusal.__name__):
+                self.assertEqual(refusal.__bases__, (SeatError,))
+                self.assertTrue(issubclass(refusal, ValueError))
+
+    def test_none_is_under_another_one(self):
+        for one in REFUSALS:
+            for other in REFUSALS:
+                self.assertEqual(issubclass(one, other), one is other)
+
+    def test_each_bears_its_own_name(self):
+        names = ["NoShare", "NoLower", "NoMap", "NoJoin", "NoPlace", "TooMany", "NoText", "NoName"]
+        self.assertEqual([refusal.__name__ for refusal in REFUSALS], names)
+        self.assertEqual(len(set(REFUSALS)), 8)
+        for name, refusal in zip(names, REFUSALS):
+            self.assertIs(vars(errors)[name], refusal)
+
+    def test_each_is_taken_by_itself_the_base_and_value_error_alone(self):
+        for refusal in REFUSALS:
+            for taker in REFUSALS + (SeatError, ValueError):
+                with self.subTest(refusal=refusal.__name__, taker=taker.__name__):
+                    fits = taker in (refusal, SeatError, ValueError)
+                    self.assertEqual(takes(taker, lambda: fail_with(refusal)), fits)
+
+    def test_refusal_of_a_share_is_taken_by_the_same_three(self):
+        deeds = (lambda: share(1, 0), lambda: over((1, 2), (0, 1)))
+        for deed in deeds:
+            for taker in REFUSALS + (SeatError, ValueError):
+                with self.subTest(taker.__name__):
+                    self.assertEqual(takes(taker, deed), taker in (NoShare, SeatError, ValueError))
+
+
+def fail_with(refusal):
+    raise refusal("why")
+
+
+def takes(taker, deed):
+    """Whether an except row of this class takes what the deed raises."""
+    try:
+        deed()
+    except taker:
+        return True
+    except Exception:
+        return False
+    raise AssertionError("nothing was refused")
+
+
+if __name__ == "__main__":
+    unittest.main()

@@ -1,0 +1,38 @@
+import doctest
+import unittest
+from pathlib import Path
+
+from curveseat import errors
+
+ROOT = Path(__file__).resolve().parent.parent
+README = ROOT / "README.md"
+
+
+class Readme(unittest.TestCase):
+    def test_its_examples_answer_as_written(self):
+        result = doctest.testfile(str(README), module_relative=False, encoding="utf-8")
+        self.assertGreater(result.attempted, 0)
+        self.assertEqual(result.failed, 0)
+
+    def test_it_says_how_to_use_every_call(self):
+        text = README.read_text(encoding="utf-8")
+        calls = (
+            "share(top, bottom)", "plus(one, other)", "minus(one, other)", "times(one, other)", "over(one, other)",
+            "under(one, other)", "between(one, other, t)",
+            "on_way(one, other, t)", "step(one, other)", "cross(one, other)", "dot(one, other)",
+        )
+        refusals = [name for name in vars(errors) if name[0].isupper()]
+        self.assertEqual(len(refusals), 9)
+        for word in list(calls) + refusals:
+            with self.subTest(word):
+                self.assertIn(f"`{word}`", text)
+
+    def test_it_says_how_to_run_the_tests(self):
+        text = README.read_text(encoding="utf-8")
+        self.assertIn(".ci/run", text)
+        self.assertTrue((ROOT / ".ci" / "run").is_file())
+        self.assertIn("python3 -m unittest discover -s tests -t .", text)
+
+
+if __name__ == "__main__":
+    unittest.main()
