@@ -2,6 +2,8 @@
 
 import unittest
 from fractions import Fraction
+from functools import lru_cache
+from itertools import combinations
 from math import gcd
 
 THIRTY = 123456789012345678901234567890
@@ -41,7 +43,77 @@ def pairs(fractions):
     return [(x, fractions[(at * 7 + 3) % len(fractions)]) for at, x in enumerate(fractions)]
 
 
+def plain_curve(curve):
+    """The curve, as the document writes it, of pairs of fractions of Python's own."""
+    return [plain_pair(pair) for pair in curve]
+
+
+def seats(*pairs_of_tops, bottom=1):
+    """A curve in fractions of Python's own, its seats given as pairs of tops over one bottom."""
+    return tuple((Fraction(x, bottom), Fraction(y, bottom)) for x, y in pairs_of_tops)
+
+
+@lru_cache(maxsize=None)
+def ways(n, k):
+    """How many ways there are to choose k of n things, counted one by one."""
+    return sum(1 for chosen in combinations(range(n), k))
+
+
+def weights_of(n, t):
+    """The weights of n at t, as the document tells them."""
+    return [ways(n, k) * t ** k * (1 - t) ** (n - k) for k in range(n + 1)]
+
+
+def weighted(curve, t):
+    """The sum of the seats, each times its weight at t."""
+    told = weights_of(len(curve) - 1, t)
+    return (
+        sum(weight * seat[0] for weight, seat in zip(told, curve)),
+        sum(weight * seat[1] for weight, seat in zip(told, curve)),
+    )
+
+
+def fractions_of(curve):
+    """A told curve, in fractions of Python's own."""
+    return [(Fraction(*x), Fraction(*y)) for x, y in curve]
+
+
 SHARES = tuple(plain(fraction) for fraction in FRACTIONS)
+
+ONE_SEAT = seats((-3, 8), bottom=4)
+TWO_SEATS = ((Fraction(1, 2), Fraction(-1)), (Fraction(-2, 3), Fraction(5, 7)))
+FOUR_SEATS = seats((0, 0), (1, 4), (5, 3), (6, -2))
+SOME_ALIKE = seats((1, 2), (1, 2), (-3, 5), (1, 2), (4, 4), (4, 4), bottom=3)
+ALL_ALIKE = seats((-7, 5), (-7, 5), (-7, 5), (-7, 5), (-7, 5), bottom=6)
+CLOSED = seats((2, 1), (7, -3), (0, 9), (2, 1), bottom=2)
+TWELVE_SEATS = tuple((Fraction(k * k - 9, k + 1), Fraction((-1) ** k * (3 * k + 2), 7 - k % 5)) for k in range(12))
+THIRTY_FIGURES = (
+    (Fraction(THIRTY), Fraction(1, THIRTY)), (Fraction(-THIRTY, 7), Fraction(THIRTY + 1, THIRTY)),
+    (Fraction(0), Fraction(-1)), (Fraction(7, THIRTY + 2), Fraction(THIRTY, THIRTY + 4)),
+    (Fraction(THIRTY, 11), Fraction(3)),
+)
+HUNDRED_FIGURES = tuple(
+    (Fraction(HUNDRED - k, HUNDRED_ROUND - k * k), Fraction((-1) ** k * HUNDRED_PRIMES, HUNDRED - 3 * k))
+    for k in range(1, 13)
+)
+# One to twelve seats, each number of them at least once.
+LADDER = tuple(TWELVE_SEATS[:many] for many in range(1, 13))
+CURVES = LADDER + (
+    ONE_SEAT, TWO_SEATS, TWO_SEATS[:1] * 2, FOUR_SEATS, SOME_ALIKE, ALL_ALIKE, CLOSED, THIRTY_FIGURES,
+    HUNDRED_FIGURES[:3],
+)
+
+INSIDE = tuple(
+    Fraction(top, bottom)
+    for top, bottom in ((0, 1), (1, 1), (1, 2), (1, 3), (2, 3), (3, 4), (1, 7), (THIRTY, THIRTY + 1), (1, THIRTY))
+)
+OUTSIDE = tuple(
+    Fraction(top, bottom)
+    for top, bottom in (
+        (2, 1), (-1, 1), (-1, 3), (7, 5), (-9, 4), (THIRTY, 1), (-THIRTY, 7), (THIRTY + 2, THIRTY), (-1, THIRTY),
+    )
+)
+TIMES = INSIDE + OUTSIDE
 
 
 class ShareCase(unittest.TestCase):
@@ -66,3 +138,29 @@ class ShareCase(unittest.TestCase):
         self.assertEqual(len(one), 2)
         self.assert_share(one[0], pair[0])
         self.assert_share(one[1], pair[1])
+
+    def assert_point_form(self, one):
+        """That this is a point, both its shares in their one form."""
+        self.assertIs(type(one), tuple)
+        self.assertEqual(len(one), 2)
+        self.assert_form(one[0])
+        self.assert_form(one[1])
+
+    def assert_curve_form(self, curve, many):
+        """That this is a list of so many points."""
+        self.assertIs(type(curve), list)
+        self.assertEqual(len(curve), many)
+        for one in curve:
+            self.assert_point_form(one)
+
+    def assert_curve(self, curve, pairs_told):
+        """That this is the curve of these pairs of fractions, seat by seat."""
+        self.assert_curve_form(curve, len(pairs_told))
+        for one, pair in zip(curve, pairs_told):
+            self.assert_pair(one, pair)
+
+    def assert_on(self, curve, fractions, among=TIMES):
+        """That a told curve has, reckoned here by weights, the points that a function of t tells."""
+        own = fractions_of(curve)
+        for t in among:
+            self.assertTrue(weighted(own, t) == fractions(t), t)

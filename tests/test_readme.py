@@ -20,6 +20,8 @@ class Readme(unittest.TestCase):
             "share(top, bottom)", "plus(one, other)", "minus(one, other)", "times(one, other)", "over(one, other)",
             "under(one, other)", "between(one, other, t)",
             "on_way(one, other, t)", "step(one, other)", "cross(one, other)", "dot(one, other)",
+            "rows(curve, t)", "point(curve, t)", "weights(n, t)", "polar(curve, shares)",
+            "powers(curve)", "of_powers(some)", "cut(curve, t)", "stretch(curve, s, t)", "turned(curve)",
         )
         refusals = [name for name in vars(errors) if name[0].isupper()]
         self.assertEqual(len(refusals), 9)
