@@ -2,6 +2,8 @@
 
 from curveseat.shares import between, minus, plus, times
 
+NOUGHT = ((0, 1), (0, 1))
+
 
 def on_way(one, other, t):
     """The point between two points at t."""

@@ -73,6 +73,21 @@ def weighted(curve, t):
     )
 
 
+def by_powers(some, t):
+    """The sum of the pairs, each times t taken as often as its number tells."""
+    return (sum(one[0] * t ** k for k, one in enumerate(some)), sum(one[1] * t ** k for k, one in enumerate(some)))
+
+
+def seats_of_powers(some):
+    """The curve, in fractions, that has these pairs of fractions as its powers."""
+    last = len(some) - 1
+    parts = [[Fraction(ways(k, i), ways(last, i)) for i in range(k + 1)] for k in range(last + 1)]
+    return tuple(
+        (sum(part * one[0] for part, one in zip(row, some)), sum(part * one[1] for part, one in zip(row, some)))
+        for row in parts
+    )
+
+
 def fractions_of(curve):
     """A told curve, in fractions of Python's own."""
     return [(Fraction(*x), Fraction(*y)) for x, y in curve]

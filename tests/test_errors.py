@@ -1,10 +1,23 @@
 import unittest
+from copy import deepcopy
 
 from curveseat import errors
 from curveseat.errors import NoJoin, NoLower, NoMap, NoName, NoPlace, NoShare, NoText, SeatError, TooMany
+from curveseat.maps import back
+from curveseat.raising import lowered, raised
 from curveseat.shares import over, share
 
 REFUSALS = (NoShare, NoLower, NoMap, NoJoin, NoPlace, TooMany, NoText, NoName)
+SEAT, OTHER_SEAT = ((1, 2), (3, 1)), ((-1, 3), (4, 1))
+FLAT = ((1, 1), (2, 1), (2, 1), (4, 1), (5, 1), (6, 1))
+# Each refusal that a call tells: its class, the call and what is handed in.
+DEEDS = (
+    (NoShare, share, (1, 0)), (NoShare, over, ((1, 2), (0, 1))),
+    (TooMany, raised, ([SEAT, OTHER_SEAT] * 6,)),
+    (NoLower, lowered, ([SEAT],)), (NoLower, lowered, ([SEAT, OTHER_SEAT],)),
+    (NoLower, lowered, ([SEAT, SEAT, OTHER_SEAT],)),
+    (NoMap, back, (FLAT,)),
+)
 
 
 class Refusals(unittest.TestCase):
@@ -36,12 +49,19 @@ class Refusals(unittest.TestCase):
                     fits = taker in (refusal, SeatError, ValueError)
                     self.assertEqual(takes(taker, lambda: fail_with(refusal)), fits)
 
-    def test_refusal_of_a_share_is_taken_by_the_same_three(self):
-        deeds = (lambda: share(1, 0), lambda: over((1, 2), (0, 1)))
-        for deed in deeds:
+    def test_what_a_call_refuses_is_taken_by_the_same_three(self):
+        for refusal, call, handed in DEEDS:
             for taker in REFUSALS + (SeatError, ValueError):
-                with self.subTest(taker.__name__):
-                    self.assertEqual(takes(taker, deed), taker in (NoShare, SeatError, ValueError))
+                with self.subTest(call=call.__name__, taker=taker.__name__):
+                    fits = taker in (refusal, SeatError, ValueError)
+                    self.assertEqual(takes(taker, lambda: call(*handed)), fits)
+
+    def test_what_is_refused_changes_nothing_handed_in(self):
+        for refusal, call, handed in DEEDS:
+            with self.subTest(call.__name__):
+                before = deepcopy(handed)
+                self.assertTrue(takes(refusal, lambda: call(*handed)))
+                self.assertEqual(handed, before)
 
 
 def fail_with(refusal):

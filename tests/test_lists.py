@@ -5,7 +5,11 @@ from copy import deepcopy
 
 from curveseat.curves import point, polar, rows, weights
 from curveseat.cuts import cut, stretch, turned
+from curveseat.hulls import box, hull, in_hull
+from curveseat.maps import map_point, mapped
 from curveseat.powers import of_powers, powers
+from curveseat.raising import least, lowered, raised, same
+from curveseat.speeds import speed
 from tests.samples import ALL_ALIKE, CLOSED, FOUR_SEATS, ONE_SEAT, TWO_SEATS, plain_curve
 
 SPOILT = "spoilt"
@@ -20,6 +24,11 @@ def of_each_curve(*rest):
 
 
 SHARES = [(1, 3), (-2, 1), (1, 2)]
+PLACE = ((1, 2), (1, 1))
+STAY = ((1, 1), (0, 1), (0, 1), (1, 1), (0, 1), (0, 1))
+TURN = ((0, 1), (-1, 1), (1, 1), (0, 1), (3, 1), (1, 2))
+LOWERABLE = [(raised(plain_curve(curve)),) for curve in (ONE_SEAT, TWO_SEATS, FOUR_SEATS)] + [(plain_curve(ALL_ALIKE),)]
+CORNERS = [(hull(plain_curve(curve)), PLACE) for curve in (ONE_SEAT, TWO_SEATS, FOUR_SEATS)]
 
 # Each call with rows of arguments; what it tells is asked of each row more than once.
 CALLS = (
@@ -32,6 +41,16 @@ CALLS = (
     (cut, of_each_curve((1, 3)) + of_each_curve((0, 1)) + of_each_curve((1, 1))),
     (stretch, of_each_curve((1, 3), (3, 4)) + of_each_curve((0, 1), (1, 1)) + of_each_curve((1, 2), (1, 2))),
     (turned, of_each_curve()),
+    (raised, of_each_curve()),
+    (lowered, LOWERABLE),
+    (least, of_each_curve() + LOWERABLE),
+    (same, of_each_curve(plain_curve(FOUR_SEATS)) + of_each_curve(raised(plain_curve(FOUR_SEATS)))),
+    (speed, of_each_curve()),
+    (map_point, [(TURN, PLACE)]),
+    (mapped, of_each_curve(STAY) + of_each_curve(TURN)),
+    (hull, of_each_curve()),
+    (in_hull, CORNERS),
+    (box, of_each_curve()),
 )
 
 

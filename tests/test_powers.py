@@ -3,15 +3,10 @@ from fractions import Fraction
 
 from curveseat.powers import of_powers, powers
 from tests.samples import ALL_ALIKE, CURVES, HUNDRED_FIGURES, LADDER, ONE_SEAT, TIMES, TOLD, TOLD_OTHER
-from tests.samples import ShareCase, fractions_of, plain_curve, weighted
+from tests.samples import ShareCase, by_powers, fractions_of, plain_curve, seats_of_powers, weighted
 
 # More shares than a curve has seats: a sum by powers that is right at all of them is right everywhere.
 MANY_TIMES = TIMES + (Fraction(4, 9), Fraction(5), Fraction(-11, 2))
-
-
-def by_powers(some, t):
-    """The sum of the pairs, each times t taken as often as its number tells."""
-    return (sum(one[0] * t ** k for k, one in enumerate(some)), sum(one[1] * t ** k for k, one in enumerate(some)))
 
 
 class Powers(ShareCase):
@@ -51,6 +46,10 @@ class OfPowers(ShareCase):
             curve = of_powers(plain_curve(some))
             self.assert_curve_form(curve, len(some))
             self.assert_on(curve, lambda t: by_powers(some, t), MANY_TIMES)
+
+    def test_seats_against_sums_over_ways(self):
+        for some in CURVES:
+            self.assert_curve(of_powers(plain_curve(some)), seats_of_powers(some))
 
     def test_noughts_behind_are_kept_as_seats(self):
         some = [((3, 1), (1, 2)), ((0, 1), (0, 1)), ((0, 1), (0, 1))]

@@ -22,6 +22,9 @@ class Readme(unittest.TestCase):
             "on_way(one, other, t)", "step(one, other)", "cross(one, other)", "dot(one, other)",
             "rows(curve, t)", "point(curve, t)", "weights(n, t)", "polar(curve, shares)",
             "powers(curve)", "of_powers(some)", "cut(curve, t)", "stretch(curve, s, t)", "turned(curve)",
+            "raised(curve)", "lowered(curve)", "least(curve)", "same(one, other)", "speed(curve)",
+            "map_point(by, place)", "mapped(curve, by)", "then(one, other)", "back(by)",
+            "hull(points)", "in_hull(corners, place)", "box(points)",
         )
         refusals = [name for name in vars(errors) if name[0].isupper()]
         self.assertEqual(len(refusals), 9)
