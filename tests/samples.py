@@ -179,3 +179,49 @@ class ShareCase(unittest.TestCase):
         own = fractions_of(curve)
         for t in among:
             self.assertTrue(weighted(own, t) == fractions(t), t)
+
+
+class PartingCase(ShareCase):
+    """Of partings any that hold are told: so they are held to the document's words, not to written answers."""
+
+    def assert_line(self, line, ones, others):
+        """That a line, three shares, parts the pairs of fractions: each strictly on its side."""
+        for one in line:
+            self.assert_form(one)
+        a, b, c = [Fraction(*one) for one in line]
+        for x, y in ones:
+            self.assertTrue(a * x + b * y < c)
+        for x, y in others:
+            self.assertTrue(c < a * x + b * y)
+
+    def assert_shares(self, told, many):
+        """That these are so many shares from 0 on that come to 1 together."""
+        self.assertIs(type(told), list)
+        self.assertEqual(len(told), many)
+        for one in told:
+            self.assert_form(one)
+            self.assertTrue(one[0] >= 0)
+        self.assertTrue(sum(Fraction(*one) for one in told) == 1)
+
+    def assert_common(self, told, ones, others):
+        """That two lists of shares lead the pairs of fractions of both lists to the same point."""
+        for part, places in zip(told, (ones, others)):
+            self.assert_shares(part, len(places))
+        for at in (0, 1):
+            come = [
+                sum(Fraction(*one) * place[at] for one, place in zip(part, places))
+                for part, places in zip(told, (ones, others))
+            ]
+            self.assertTrue(come[0] == come[1])
+
+    def assert_parting(self, told, ones, others, kind):
+        """That a parting of this kind is told, and holds."""
+        self.assertIs(type(told), tuple)
+        self.assertEqual(told[0], kind)
+        if kind == "line":
+            self.assertEqual(len(told), 4)
+            self.assert_line(told[1:], ones, others)
+        else:
+            self.assertEqual(told[0], "common")
+            self.assertEqual(len(told), 3)
+            self.assert_common(told[1:], ones, others)

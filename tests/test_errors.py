@@ -4,6 +4,7 @@ from copy import deepcopy
 from curveseat import errors
 from curveseat.errors import NoJoin, NoLower, NoMap, NoName, NoPlace, NoShare, NoText, SeatError, TooMany
 from curveseat.maps import back
+from curveseat.meets import meets, near
 from curveseat.raising import lowered, raised
 from curveseat.shares import over, share
 
@@ -17,6 +18,8 @@ DEEDS = (
     (NoLower, lowered, ([SEAT],)), (NoLower, lowered, ([SEAT, OTHER_SEAT],)),
     (NoLower, lowered, ([SEAT, SEAT, OTHER_SEAT],)),
     (NoMap, back, (FLAT,)),
+    (TooMany, meets, ([SEAT], [SEAT], 5)), (TooMany, meets, ([SEAT], [SEAT], 6)),
+    (TooMany, near, ([SEAT], [SEAT, OTHER_SEAT], (1, 1000))),
 )
 
 

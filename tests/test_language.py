@@ -154,6 +154,39 @@ def check_names(node):
     return found
 
 
+# Methods of Python's own that the program may call; more are allowed, but not needed.
+OWN_METHODS = set(
+    "append clear copy count endswith extend find get index insert isalnum isalpha isdigit islower isspace isupper "
+    "items join keys ljust lower lstrip partition pop remove replace reverse rfind rjust rpartition rsplit rstrip "
+    "setdefault split splitlines startswith strip update upper values zfill bit_length add discard".split()
+)
+
+
+def package_faults(sources):
+    """The rules, by their numbers, that files break together: they speak of methods and values of objects."""
+    trees = [ast.parse(source) for source in sources]
+    nodes = [node for tree in trees for node in ast.walk(tree)]
+    classes = [node for node in nodes if isinstance(node, ast.ClassDef)]
+    methods = {row.name for node in classes for row in node.body if isinstance(row, ast.FunctionDef)}
+    asked = [node for node in nodes if isinstance(node, ast.Attribute)]
+    values = {node.attr for node in asked if isinstance(node.ctx, ast.Store)}
+    calls = {node.func.attr for node in nodes if isinstance(node, ast.Call) and isinstance(node.func, ast.Attribute)}
+    read = {node.attr for node in asked if isinstance(node.ctx, ast.Load)}
+    found = set()
+    if methods & values or not read - calls <= values:
+        found.add("L18")
+    if not calls <= methods | OWN_METHODS:
+        found.add("L25")
+    if any(node.keywords for node in nodes if isinstance(node, ast.Call) and isinstance(node.func, ast.Attribute)):
+        found.add("L22")
+    return found
+
+
+BROKEN_TOGETHER = (
+    ("L18", "class A:\n    def __init__(self):\n        self.many = 1\n", "class B:\n    def many(self):\n        pass"),
+    ("L18", "def f(a):\n    return a.many", ""), ("L25", "def f(a):\n    return a.isprime()", ""),
+    ("L22", "def f(a):\n    return a.split(sep=',')", ""),
+)
 BROKEN = (
     ("L2", "from math import gcd"), ("L2", "from curveseat.shares import *"), ("L2", "from .shares import share"),
     ("L3", "for k in range(3):\n    pass"), ("L4", "def f(*xs):\n    return xs"), ("L4", "def f(a, /):\n    return a"),
@@ -194,6 +227,13 @@ class Language(unittest.TestCase):
                     defined += [row.targets[0].id for row in source.body if isinstance(row, ast.Assign)]
                     for one in node.names:
                         self.assertIn(one.name, defined, stem)
+
+    def test_files_together_keep_the_rules(self):
+        sources = [file.read_text(encoding="utf-8") for file in sorted(PACKAGE.glob("*.py"))]
+        self.assertEqual(sorted(package_faults(sources)), [])
+        for rule, *broken in BROKEN_TOGETHER:
+            with self.subTest(rule=rule, broken=broken):
+                self.assertIn(rule, package_faults(broken))
 
     def test_broken_rules_are_seen(self):
         for rule, source in BROKEN:

@@ -6,7 +6,10 @@ from copy import deepcopy
 from curveseat.curves import point, polar, rows, weights
 from curveseat.cuts import cut, stretch, turned
 from curveseat.hulls import box, hull, in_hull
+from curveseat.joins import onward, smoothness
 from curveseat.maps import map_point, mapped
+from curveseat.meets import meets, near, stretches
+from curveseat.partings import parting
 from curveseat.powers import of_powers, powers
 from curveseat.raising import least, lowered, raised, same
 from curveseat.speeds import speed
@@ -28,6 +31,7 @@ PLACE = ((1, 2), (1, 1))
 STAY = ((1, 1), (0, 1), (0, 1), (1, 1), (0, 1), (0, 1))
 TURN = ((0, 1), (-1, 1), (1, 1), (0, 1), (3, 1), (1, 2))
 LOWERABLE = [(raised(plain_curve(curve)),) for curve in (ONE_SEAT, TWO_SEATS, FOUR_SEATS)] + [(plain_curve(ALL_ALIKE),)]
+LONG_WAY_OFF = [((50, 1), (61, 1)), ((52, 1), (60, 1))]
 CORNERS = [(hull(plain_curve(curve)), PLACE) for curve in (ONE_SEAT, TWO_SEATS, FOUR_SEATS)]
 
 # Each call with rows of arguments; what it tells is asked of each row more than once.
@@ -51,6 +55,13 @@ CALLS = (
     (hull, of_each_curve()),
     (in_hull, CORNERS),
     (box, of_each_curve()),
+    (parting, of_each_curve(plain_curve(FOUR_SEATS)) + of_each_curve(LONG_WAY_OFF) + of_each_curve([PLACE])),
+    (stretches, of_each_curve(0) + of_each_curve(1) + of_each_curve(3)),
+    (meets, of_each_curve(plain_curve(FOUR_SEATS), 0) + of_each_curve(plain_curve(FOUR_SEATS), 2)
+     + of_each_curve(LONG_WAY_OFF, 1)),
+    (near, of_each_curve(plain_curve(FOUR_SEATS), (7, 1)) + of_each_curve(plain_curve(FOUR_SEATS), (2, 1))),
+    (smoothness, of_each_curve(plain_curve(FOUR_SEATS), 3) + [(plain_curve(CLOSED), plain_curve(CLOSED), 11)]),
+    (onward, of_each_curve(1, 0) + of_each_curve(5, 2) + of_each_curve(12, 11)),
 )
 
 
@@ -94,6 +105,14 @@ class Lists(unittest.TestCase):
             self.assertEqual(len({id(one) for one in every}), len(every))
 
         self.try_each(trial)
+
+    def test_one_list_handed_in_twice(self):
+        for call, rest in ((parting, ()), (meets, (2,)), (near, ((3, 1),)), (smoothness, (4,)), (same, ())):
+            for curve in (ONE_SEAT, FOUR_SEATS, CLOSED):
+                handed = plain_curve(curve)
+                told = call(handed, handed, *rest)
+                self.assertEqual(handed, plain_curve(curve))
+                self.assertEqual(told, call(plain_curve(curve), plain_curve(curve), *rest))
 
     def test_changing_a_told_list_changes_nothing_else(self):
         def trial(call, handed):

@@ -25,6 +25,8 @@ class Readme(unittest.TestCase):
             "raised(curve)", "lowered(curve)", "least(curve)", "same(one, other)", "speed(curve)",
             "map_point(by, place)", "mapped(curve, by)", "then(one, other)", "back(by)",
             "hull(points)", "in_hull(corners, place)", "box(points)",
+            "parting(one, other)", "stretches(curve, level)", "meets(one, other, level)", "near(one, other, nearness)",
+            "smoothness(one, other, most)", "onward(curve, seats, k)",
         )
         refusals = [name for name in vars(errors) if name[0].isupper()]
         self.assertEqual(len(refusals), 9)
