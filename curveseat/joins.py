@@ -18,9 +18,11 @@ def powers_behind(curve):
 
 def smoothness(one, other, most):
     """How often, up to most times, the speeds of two curves that join are alike there; -1 where they don't join."""
-    spare = [NOUGHT] * (most + 1)
+    if one[-1] != other[0]:
+        return -1
+    spare = [NOUGHT] * most
     ends, begins = powers_behind(one) + spare, powers(other) + spare
-    found = -1
+    found = 0
     while found < most and ends[found + 1] == begins[found + 1]:
         found += 1
     return found

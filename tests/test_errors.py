@@ -2,11 +2,14 @@ import unittest
 from copy import deepcopy
 
 from curveseat import errors
+from curveseat.desk import Desk
 from curveseat.errors import NoJoin, NoLower, NoMap, NoName, NoPlace, NoShare, NoText, SeatError, TooMany
 from curveseat.maps import back
 from curveseat.meets import meets, near
+from curveseat.paths import Path
 from curveseat.raising import lowered, raised
 from curveseat.shares import over, share
+from curveseat.texts import read_curve, read_path, read_point, read_share
 
 REFUSALS = (NoShare, NoLower, NoMap, NoJoin, NoPlace, TooMany, NoText, NoName)
 SEAT, OTHER_SEAT = ((1, 2), (3, 1)), ((-1, 3), (4, 1))
@@ -20,6 +23,12 @@ DEEDS = (
     (NoMap, back, (FLAT,)),
     (TooMany, meets, ([SEAT], [SEAT], 5)), (TooMany, meets, ([SEAT], [SEAT], 6)),
     (TooMany, near, ([SEAT], [SEAT, OTHER_SEAT], (1, 1000))),
+    (NoJoin, Path, ([],)), (NoJoin, Path, ([[SEAT], [OTHER_SEAT]],)), (NoJoin, Path, ([[SEAT]] * 13,)),
+    (NoPlace, Path([[SEAT, OTHER_SEAT]]).point, ((-1, 2),)), (NoPlace, Path([[SEAT, OTHER_SEAT]]).point, ((3, 2),)),
+    (NoPlace, Path([[SEAT, OTHER_SEAT]]).cut, ((0, 1),)), (NoPlace, Path([[SEAT, OTHER_SEAT]]).cut, ((1, 1),)),
+    (NoText, read_share, ("2/4",)), (NoText, read_point, ("1",)), (NoText, read_curve, ([SEAT],)), (NoText, read_path, ("",)),
+    (NoJoin, read_path, ("1,2 | 3,4",)),
+    (NoText, Desk().say, (["names"],)), (NoName, Desk().say, ("tell a",)),
 )
 
 

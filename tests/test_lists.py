@@ -12,7 +12,9 @@ from curveseat.meets import meets, near, stretches
 from curveseat.partings import parting
 from curveseat.powers import of_powers, powers
 from curveseat.raising import least, lowered, raised, same
+from curveseat.smooths import through
 from curveseat.speeds import speed
+from curveseat.texts import read_curve, show_curve
 from tests.samples import ALL_ALIKE, CLOSED, FOUR_SEATS, ONE_SEAT, TWO_SEATS, plain_curve
 
 SPOILT = "spoilt"
@@ -62,6 +64,9 @@ CALLS = (
     (near, of_each_curve(plain_curve(FOUR_SEATS), (7, 1)) + of_each_curve(plain_curve(FOUR_SEATS), (2, 1))),
     (smoothness, of_each_curve(plain_curve(FOUR_SEATS), 3) + [(plain_curve(CLOSED), plain_curve(CLOSED), 11)]),
     (onward, of_each_curve(1, 0) + of_each_curve(5, 2) + of_each_curve(12, 11)),
+    (through, of_each_curve()),
+    (show_curve, of_each_curve()),
+    (read_curve, [("1,2",), ("1,2 -3/4,5 1,2",)]),
 )
 
 

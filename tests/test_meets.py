@@ -259,6 +259,22 @@ class Meets(PartingCase):
         with self.assertRaises(TooMany):
             meets(folded, folded, 6)
 
+    def test_just_the_most_pairs_and_one_more(self):
+        for tops, other_tops, many in (((41, 99, 21, 67), (69, 30, 80), 256), ((47, 101, 19, 70), (66, 32, 76), 257)):
+            one, other = seats(*[(x, 0) for x in tops]), seats(*[(x, 0) for x in other_tops])
+            # On one straight line hulls meet where boxes do.
+            ones, others = [[box_of(part) for part in stretches_of(curve, 6)] for curve in (one, other)]
+            expected = [
+                (i, j) for i in range(64) for j in range(64)
+                if max(ones[i][0], others[j][0]) <= min(ones[i][2], others[j][2])
+            ]
+            self.assertEqual(len(expected), many)
+            if many > 256:
+                with self.assertRaises(TooMany):
+                    meets(plain_curve(one), plain_curve(other), 6)
+            else:
+                self.assertEqual(meets(plain_curve(one), plain_curve(other), 6)[0], expected)
+
     def test_a_level_ahead_with_more_is_refused(self):
         one, other = plain_curve(walked(Fraction(0))), plain_curve(walked(Fraction(1, 200)))
         many = [len(meets(one, other, level)[0]) for level in range(7)]

@@ -2,7 +2,7 @@ import doctest
 import unittest
 from pathlib import Path
 
-from curveseat import errors
+from curveseat import desk, errors
 
 ROOT = Path(__file__).resolve().parent.parent
 README = ROOT / "README.md"
@@ -26,13 +26,22 @@ class Readme(unittest.TestCase):
             "map_point(by, place)", "mapped(curve, by)", "then(one, other)", "back(by)",
             "hull(points)", "in_hull(corners, place)", "box(points)",
             "parting(one, other)", "stretches(curve, level)", "meets(one, other, level)", "near(one, other, nearness)",
-            "smoothness(one, other, most)", "onward(curve, seats, k)",
+            "smoothness(one, other, most)", "onward(curve, seats, k)", "through(points)",
+            "Path(curves)", "curves()", "point(t)", "cut(t)", "turned()",
+            "show_share(one)", "show_point(one)", "show_curve(curve)", "show_path(path)",
+            "read_share(text)", "read_point(text)", "read_curve(text)", "read_path(text)", "Desk()", "say(row)",
         )
         refusals = [name for name in vars(errors) if name[0].isupper()]
         self.assertEqual(len(refusals), 9)
         for word in list(calls) + refusals:
             with self.subTest(word):
                 self.assertIn(f"`{word}`", text)
+
+    def test_it_tells_every_row_of_the_desk(self):
+        text = README.read_text(encoding="utf-8")
+        for word in desk.DEEDS:
+            with self.subTest(word):
+                self.assertRegex(text, f"`{word}( [A-Z. ]+)?`")
 
     def test_it_says_how_to_run_the_tests(self):
         text = README.read_text(encoding="utf-8")
